@@ -1,0 +1,1 @@
+"""The best by several measures, asked by wishes."""
