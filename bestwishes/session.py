@@ -1,17 +1,21 @@
-"""The object on which calls are made: a list that is held, and the wishes as they are now."""
+"""The object on which calls are made: a list that is held, the wishes as they are now, and those before changes."""
 
+from bestwishes.beating import is_unbeaten
 from bestwishes.faults import Fault
 from bestwishes.lists import read_list
-from bestwishes.shares import Contender, all_shares, left_when_liked, piece_winners
+from bestwishes.questions import next_question, questions_needed
+from bestwishes.shares import Contender, all_shares, left_when_liked, may_be_best, piece_winners
 
 NO_SUCH_ITEM = -2
 NO_SUCH_MEASURE = -3
 WRONG_BOUNDS = -4
 NONE_TAKEN = -5
 NO_SHARE_LEFT = -6
+NO_CHANGE_HELD = -8
 
 LOWEST_BOUND = -1000
 HIGHEST_BOUND = 1000
+MOST_CHANGES = 20
 
 
 class Wishes:
@@ -32,6 +36,7 @@ class Session:
     def __init__(self):
         self.held = None
         self.wishes = None
+        self.before = []
 
     def load(self, text):
         try:
@@ -40,6 +45,7 @@ class Session:
             return [0, fault.code, fault.place]
         self.held = held
         self.wishes = Wishes([(LOWEST_BOUND, HIGHEST_BOUND) for way in held.ways], None, None)
+        self.before = []
         return [1, len(held.ways), len(held.rows)]
 
     def bound(self, measure, low, high):
@@ -49,13 +55,13 @@ class Session:
             return [WRONG_BOUNDS]
         bounds = list(self.wishes.bounds)
         bounds[measure] = (low, high)
-        self.wishes = Wishes(bounds, self.wishes.pair, self.wishes.left)
+        self.change(Wishes(bounds, self.wishes.pair, self.wishes.left))
         return [len(self.numbers_within())]
 
     def begin(self, first, second):
         if not self.has_measure(first) or not self.has_measure(second) or first == second:
             return [NO_SUCH_MEASURE]
-        self.wishes = Wishes(self.wishes.bounds, (first, second), all_shares())
+        self.change(Wishes(self.wishes.bounds, (first, second), all_shares()))
         return [1, len(self.winners())]
 
     def like(self, liked, other):
@@ -66,8 +72,40 @@ class Session:
         left = left_when_liked(self.wishes.left, self.contender(liked), self.contender(other))
         if left is None:
             return [NO_SHARE_LEFT]
-        self.wishes = Wishes(self.wishes.bounds, self.wishes.pair, left)
-        return [1, left[0][0], left[0][1], left[1][0], left[1][1], len(self.winners())]
+        self.change(Wishes(self.wishes.bounds, self.wishes.pair, left))
+        return [1] + told_shares(left) + [len(self.winners())]
+
+    def still(self):
+        if self.wishes.pair is None:
+            return [NONE_TAKEN]
+        left = self.wishes.left
+        contenders = self.contenders()
+        numbers = [each.number for each in contenders if may_be_best(each, contenders, left)]
+        return [len(numbers)] + numbers + told_shares(left)
+
+    def ask(self):
+        if self.wishes.pair is None:
+            return [NONE_TAKEN]
+        winners = self.winners()
+        return [questions_needed(len(winners)), len(winners)] + next_question(winners)
+
+    def best(self):
+        within = self.numbers_within()
+        rows = [self.good_row(item) for item in within]
+        numbers = [item for item, row in zip(within, rows) if is_unbeaten(row, rows)]
+        return [len(numbers)] + numbers
+
+    def undo(self):
+        if len(self.before) == 0:
+            return [NO_CHANGE_HELD]
+        self.wishes = self.before.pop()
+        return [len(self.numbers_within())]
+
+    def change(self, wishes):
+        """Puts other wishes in place, and holds those before the last changes, so that they can be undone."""
+        self.before.append(self.wishes)
+        self.before = self.before[-MOST_CHANGES:]
+        self.wishes = wishes
 
     def has_measure(self, measure):
         return 0 <= measure < len(self.held.ways)
@@ -85,12 +123,24 @@ class Session:
         pair = self.wishes.pair
         return Contender(item, self.good_value(item, pair[0]), self.good_value(item, pair[1]))
 
+    def contenders(self):
+        """All items within the bounds, as they stand against each other."""
+        return [self.contender(item) for item in self.numbers_within()]
+
     def good_value(self, item, measure):
         return self.held.ways[measure] * self.held.rows[item][measure]
 
+    def good_row(self, item):
+        """An item's good values by all measures."""
+        return [self.good_value(item, measure) for measure in range(len(self.held.ways))]
+
     def winners(self):
         """The item of each piece, in the pieces' order."""
-        return piece_winners([self.contender(item) for item in self.numbers_within()], self.wishes.left)
+        return piece_winners(self.contenders(), self.wishes.left)
+
+
+def told_shares(left):
+    return list(left[0] + left[1])
 
 
 def is_within(row, bounds):

@@ -66,6 +66,18 @@ def left_when_liked(left, liked, other):
     return None if is_less(greatest, least) else (least, greatest)
 
 
+def may_be_best(contender, contenders, left):
+    """Whether a contender has no less than all others for some share left.
+
+    Each other one leaves it shares from one to another, so what all of them leave can be narrowed one by one.
+    """
+    for other in contenders:
+        left = left_when_liked(left, contender, other)
+        if left is None:
+            return False
+    return True
+
+
 def piece_winners(contenders, left):
     """The number of each piece's item, the piece with the least shares first.
 

@@ -8,13 +8,12 @@ LOAD = 0
 BOUND = 1
 BEGIN = 2
 LIKE = 3
+STILL = 4
+ASK = 5
+BEST = 6
 
 # How many whole numbers a call has, by its number; load has a row instead.
 HOW_MANY = (0, 3, 2, 2, 0, 0, 0, 0)
-
-
-class CallNotBuilt(NotImplementedError):
-    """A call that the program can't answer yet."""
 
 
 def answers(calls):
@@ -52,4 +51,10 @@ def answer_call(session, call, numbers):
         return session.begin(numbers[0], numbers[1])
     if call == LIKE:
         return session.like(numbers[0], numbers[1])
-    raise CallNotBuilt(f"call {call} is not built yet")
+    if call == STILL:
+        return session.still()
+    if call == ASK:
+        return session.ask()
+    if call == BEST:
+        return session.best()
+    return session.undo()

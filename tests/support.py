@@ -72,3 +72,10 @@ def has(pair, share):
 def shares_of(answer):
     """The two shares that like has answered."""
     return Fraction(answer[1], answer[2]), Fraction(answer[3], answer[4])
+
+
+def still_of(answer):
+    """The items and the two shares that still has answered."""
+    count = answer[0]
+    least, under_least, greatest, under_greatest = answer[1 + count:]
+    return answer[1:1 + count], Fraction(least, under_least), Fraction(greatest, under_greatest)

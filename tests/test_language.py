@@ -46,6 +46,13 @@ def own_methods():
             for part in node.body if isinstance(part, ast.FunctionDef)}
 
 
+def top_names(path):
+    """What a file itself defines at its top: functions, classes and plain values."""
+    top = ast.parse(path.read_text(encoding="ascii")).body
+    names = {node.name for node in top if isinstance(node, (ast.FunctionDef, ast.ClassDef))}
+    return names | {node.targets[0].id for node in top if isinstance(node, ast.Assign)}
+
+
 class Language(unittest.TestCase):
 
     def test_files(self):
@@ -96,6 +103,46 @@ class Language(unittest.TestCase):
         for name, node in nodes():
             if isinstance(node, ast.ImportFrom):
                 self.assertEqual((node.level, node.module.split(".")[0]), (0, "bestwishes"), name)
+
+    def test_names_are_drawn_from_the_file_that_defines_them(self):
+        tops = {path.stem: top_names(path) for path in files()}
+        for name, node in nodes():
+            if isinstance(node, ast.ImportFrom):
+                for part in node.names:
+                    self.assertIsNone(part.asname, name)
+                    self.assertIn(part.name, tops[node.module.split(".")[1]], name)
+
+    def test_no_two_files_draw_from_one_another(self):
+        drawn = {path.stem: set() for path in files()}
+        for name, node in nodes():
+            if isinstance(node, ast.ImportFrom):
+                drawn[name.split(".")[0]].add(node.module.split(".")[1])
+        while drawn:
+            free = [name for name in drawn if not drawn[name] & set(drawn)]
+            self.assertNotEqual(free, [], drawn)
+            drawn = {name: drawn[name] for name in drawn if name not in free}
+
+    def test_locals_are_not_called_like_imports_and_classes(self):
+        for path in files():
+            tree = ast.parse(path.read_text(encoding="ascii"))
+            taken = {part.name for node in tree.body if isinstance(node, ast.ImportFrom) for part in node.names}
+            taken |= {node.name for node in tree.body if isinstance(node, ast.ClassDef)}
+            stored = [node.id for node in ast.walk(tree)
+                      if isinstance(node, ast.Name) and isinstance(node.ctx, ast.Store)]
+            stored += [node.arg for node in ast.walk(tree) if isinstance(node, ast.arg)]
+            self.assertEqual(taken & set(stored), set(), path.name)
+
+    def test_no_name_is_a_method_and_a_value(self):
+        values = {node.attr for name, node in nodes() if isinstance(node, ast.Attribute)
+                  and isinstance(node.ctx, ast.Store)}
+        self.assertEqual(values & own_methods(), set())
+        python = {part for kind in (str, int, list, dict, set, bytes, tuple) for part in dir(kind)}
+        self.assertEqual((values | own_methods() - {"__init__"}) & python, set())
+
+    def test_errors_of_the_text_alone_are_raised_and_all_are_taken(self):
+        raised = {node.exc.func.id for name, node in nodes() if isinstance(node, ast.Raise)}
+        caught = {node.type.id for name, node in nodes() if isinstance(node, ast.ExceptHandler)}
+        self.assertEqual((raised, caught), ({"Fault"}, {"Fault"}))
 
     def test_methods(self):
         allowed = METHODS | own_methods()

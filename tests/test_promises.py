@@ -4,7 +4,8 @@ import random
 import unittest
 from fractions import Fraction
 
-from tests.support import begin, bound, good_pairs, has, like, list_text, load, run, shares_of
+from tests.support import (
+    ASK, BEST, STILL, UNDO, begin, bound, good_pairs, has, last, like, list_text, load, run, shares_of, still_of)
 
 SPANS = (2, 3, 10, 1000)
 
@@ -31,6 +32,12 @@ class Case:
         return [item for item, row in enumerate(self.rows)
                 if all(lo <= row[m] <= hi for m, lo, hi in self.bounds)]
 
+    def good_rows(self):
+        return [[value if way == "up" else -value for value, way in zip(row, self.ways)] for row in self.rows]
+
+    def bound_calls(self):
+        return [bound(*each) for each in self.bounds]
+
     def two_items(self):
         return self.dice.randrange(len(self.rows)), self.dice.randrange(len(self.rows))
 
@@ -52,15 +59,46 @@ def crossings(pairs):
     return found
 
 
-def count_pieces(pairs, items, least, greatest):
-    """Counts pieces by the first best item halfway between any two shares where something can change."""
+def marks_between(pairs, least, greatest):
+    """The shares left where something can change, their ends too, in order."""
+    return sorted({least, greatest} | {share for share in crossings(pairs) if least < share < greatest})
+
+
+def winners_of(pairs, items, least, greatest):
+    """Each piece's item, by the first best one halfway between any two shares where something can change."""
     if not items:
-        return 0
+        return []
     if least == greatest:
-        return 1
-    marks = sorted({least, greatest} | {share for share in crossings(pairs) if least < share < greatest})
+        return best(pairs, items, least)[:1]
+    marks = marks_between(pairs, least, greatest)
     winners = [best(pairs, items, (low + high) / 2)[0] for low, high in zip(marks, marks[1:])]
-    return 1 + sum(1 for one, other in zip(winners, winners[1:]) if one != other)
+    return winners[:1] + [other for one, other in zip(winners, winners[1:]) if one != other]
+
+
+def count_pieces(pairs, items, least, greatest):
+    return len(winners_of(pairs, items, least, greatest))
+
+
+def needed(pieces):
+    """How many questions are needed at the worst, in the document's own words."""
+    return 0 if pieces < 2 else 1 + needed(-(-pieces // 2))
+
+
+def may_be_best(pairs, items, least, greatest):
+    """All that are best for one of the shares where something can change, or halfway between two."""
+    if not items:
+        return []
+    marks = marks_between(pairs, least, greatest)
+    marks += [(low + high) / 2 for low, high in zip(marks, marks[1:])]
+    return sorted({item for share in marks for item in best(pairs, items, share)})
+
+
+def unbeaten(rows, items):
+    """By rows of good values: those that none of the items beats."""
+    def beats(one, other):
+        pairs = list(zip(rows[one], rows[other]))
+        return all(a >= b for a, b in pairs) and any(a > b for a, b in pairs)
+    return [item for item in items if not any(beats(other, item) for other in items)]
 
 
 class Promises(unittest.TestCase):
@@ -107,6 +145,108 @@ class Promises(unittest.TestCase):
                 self.assertLessEqual(least, share, number)
                 self.assertLessEqual(share, greatest, number)
                 self.assertGreaterEqual(answer[5], 1, number)
+
+    def test_1_the_best_one_may_be_best_to_the_end(self):
+        for number in range(300):
+            case = Case(number)
+            share = self.some_share(case)
+            items = case.within()
+            calls = [case.load, *case.bound_calls(), begin(case.m, case.k)]
+            wanted = set(best(case.pairs, items, share)) if items else set()
+            asked, still = run(*calls, ASK, STILL)[-2:]
+            self.assert_kept(still, share, wanted, number)
+            while asked[1] > 1:
+                i, j = asked[2:]
+                calls.append(like(i, j) if has(case.pairs[i], share) >= has(case.pairs[j], share) else like(j, i))
+                asked, still = run(*calls, ASK, STILL)[-2:]
+                self.assert_kept(still, share, wanted, number)
+
+    def assert_kept(self, still, share, wanted, number):
+        items, least, greatest = still_of(still)
+        self.assertTrue(least <= share <= greatest, number)
+        self.assertLessEqual(wanted, set(items), number)
+
+    def test_2_each_answer_leaves_at_most_half_of_the_pieces(self):
+        for number in range(300):
+            case = Case(number)
+            calls = [case.load, *case.bound_calls(), begin(case.m, case.k)]
+            for _ in range(2):
+                calls.append(like(*case.two_items()))
+            asked = last(*calls, ASK)
+            for questions in range(asked[0], 0, -1):
+                if asked[1] == 1:
+                    break
+                self.assertLessEqual(asked[0], questions, number)
+                items = asked[2:]
+                case.dice.shuffle(items)
+                calls.append(like(*items))
+                half = (asked[1] + 1) // 2
+                asked = last(*calls, ASK)
+                self.assertTrue(1 <= asked[1] <= half, number)
+            self.assertEqual(asked[:2], [0, 1 if case.within() else 0], number)
+
+    def test_3_what_may_be_best(self):
+        for number in range(400):
+            case = Case(number)
+            items = case.within()
+            likes = [like(*case.two_items()) for _ in range(4)]
+            for count in range(len(likes) + 1):
+                calls = [case.load, *case.bound_calls(), begin(case.m, case.k), *likes[:count]]
+                asked, still = run(*calls, ASK, STILL)[-2:]
+                told, least, greatest = still_of(still)
+                self.assertEqual(told, may_be_best(case.pairs, items, least, greatest), number)
+                winners = winners_of(case.pairs, items, least, greatest)
+                middle = len(winners) // 2
+                question = winners[middle - 1:middle + 1] if len(winners) > 1 else winners
+                self.assertEqual(asked, [needed(len(winners)), len(winners)] + question, number)
+                self.assertLessEqual(set(winners), set(told), number)
+
+    def test_4_unbeaten_items(self):
+        for number in range(400):
+            case = Case(number)
+            items = unbeaten(case.good_rows(), case.within())
+            i, j = case.two_items()
+            told = run(case.load, *case.bound_calls(), BEST, begin(case.m, case.k), BEST, like(i, j), BEST)
+            self.assertEqual(told[-1::-2][:3], [[len(items)] + items] * 3, number)
+
+    def test_4_best_between_0_and_1_is_not_beaten_by_the_two_measures(self):
+        for number in range(400):
+            case = Case(number)
+            free = unbeaten(case.pairs, case.within())
+            for i, j in [case.two_items() for _ in range(10)]:
+                if not any(0 < share < 1 for share in crossings([case.pairs[i], case.pairs[j]])):
+                    continue
+                # Liked no less than each other: just the share for which they have as much is left.
+                told = run(case.load, *case.bound_calls(), begin(case.m, case.k), like(i, j), like(j, i), STILL)
+                items, least, greatest = still_of(told[-1])
+                self.assertTrue(0 < least == greatest < 1, number)
+                self.assertLessEqual(set(items), set(free), number)
+
+    def test_5_undone_is_as_if_it_had_never_been(self):
+        for number in range(200):
+            case = Case(number)
+            calls = []
+            lasting = []
+            for _ in range(30):
+                call = self.some_call(case)
+                answer = last(case.load, *calls, call)
+                calls.append(call)
+                if call == UNDO:
+                    self.assertEqual(answer == [-8], not lasting, number)
+                    lasting = lasting[:-1]
+                elif answer[0] >= 0:
+                    lasting.append(call)
+            shown = run(case.load, *calls, STILL, ASK, BEST)[-3:]
+            self.assertEqual(shown, run(case.load, *lasting, STILL, ASK, BEST)[-3:], number)
+
+    def some_call(self, case):
+        kind = case.dice.choice((1, 2, 3, 3, 7, 7))
+        if kind == 1:
+            ends = [case.dice.randint(-20, 20), case.dice.randint(-1000, 1000)]
+            return bound(case.dice.randrange(len(case.ways)), *sorted(ends))
+        if kind == 2:
+            return begin(case.dice.randrange(len(case.ways)), case.dice.randrange(len(case.ways)))
+        return like(*case.two_items()) if kind == 3 else UNDO
 
     def some_share(self, case):
         """A share of no mark, the first or the last one, or one for which two items have as much."""
